@@ -17,3 +17,29 @@ var (
 		Out  int
 	} = impl.Sign{}
 )
+
+// Those of chapter 2.
+var (
+	_ func(impl.Table) bool                                   = impl.TableOk
+	_ func(int, int) impl.Table                               = impl.TableNew
+	_ func(impl.Table, int, int) int                          = impl.TableAt
+	_ func(impl.Table) impl.Table                             = impl.TableTurn
+	_ func(impl.Table, int) (impl.Table, bool)                = impl.TableRowIn
+	_ func(impl.Table, int) (impl.Table, bool)                = impl.TableRowOut
+	_ func(impl.Table, int) (impl.Table, bool)                = impl.TableColIn
+	_ func(impl.Table, int) (impl.Table, bool)                = impl.TableColOut
+	_ func(impl.Table, int, int, int, int) (impl.Table, bool) = impl.TableMerge
+	_ func(impl.Table, int) (impl.Table, bool)                = impl.TableSplit
+	_ struct {
+		Row   int
+		Col   int
+		Down  int
+		Right int
+		Text  []impl.Sign
+	} = impl.Cell{}
+	_ struct {
+		Rows  int
+		Cols  int
+		Cells []impl.Cell
+	} = impl.Table{}
+)
