@@ -43,3 +43,20 @@ var (
 		Cells []impl.Cell
 	} = impl.Table{}
 )
+
+// Those of chapter 3.
+var (
+	_ func(impl.Doc) bool                  = impl.DocOk
+	_ func(impl.Doc) string                = impl.DocWrite
+	_ func(impl.Doc) [][]int               = impl.DocNums
+	_ func(impl.Doc, int) (impl.Doc, bool) = impl.DocSink
+	_ func(impl.Doc, int) (impl.Doc, bool) = impl.DocLift
+	_ func(impl.Doc, int) (impl.Doc, bool) = impl.DocItem
+	_ struct {
+		Kind  int
+		Level int
+		Text  []impl.Sign
+		Table impl.Table
+	} = impl.Block{}
+	_ struct{ Blocks []impl.Block } = impl.Doc{}
+)
