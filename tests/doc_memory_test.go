@@ -178,21 +178,27 @@ func TestListsOfOneDocAreApart(t *testing.T) {
 					t.Fatal("a spare block has something", d, b)
 				}
 			}
-			texts, cells := listsOf(a)
-			for i := range texts {
-				fill(texts[i], impl.Sign{In: i})
-			}
-			for i := range cells {
-				fill(cells[i], impl.Cell{Row: i})
-			}
-			for i := range texts {
-				same(t, texts[i], slices.Repeat([]impl.Sign{{In: i}}, len(texts[i])), "two texts share memory", d)
-			}
-			for i := range cells {
-				if slices.ContainsFunc(cells[i], func(c impl.Cell) bool { return c.Row != i }) {
-					t.Fatal("two lists of cells share memory", d)
-				}
-			}
+			listsAreApart(t, a, d)
+		}
+	}
+}
+
+// listsAreApart writes over each list of a document by a number of its own, and says that each keeps it.
+func listsAreApart(t *testing.T, a impl.Doc, what any) {
+	t.Helper()
+	texts, cells := listsOf(a)
+	for i := range texts {
+		fill(texts[i], impl.Sign{In: i})
+	}
+	for i := range cells {
+		fill(cells[i], impl.Cell{Row: i})
+	}
+	for i := range texts {
+		same(t, texts[i], slices.Repeat([]impl.Sign{{In: i}}, len(texts[i])), "two texts share memory", what)
+	}
+	for i := range cells {
+		if slices.ContainsFunc(cells[i], func(c impl.Cell) bool { return c.Row != i }) {
+			t.Fatal("two lists of cells share memory", what)
 		}
 	}
 }

@@ -60,3 +60,25 @@ var (
 	} = impl.Block{}
 	_ struct{ Blocks []impl.Block } = impl.Doc{}
 )
+
+// Those of chapter 11.
+var (
+	_ func(impl.Doc, impl.Place) bool                = impl.PlaceOk
+	_ func(impl.Doc, impl.Place) []impl.Sign         = impl.PlaceText
+	_ func(impl.Doc, impl.Step) (impl.Doc, bool)     = impl.StepDo
+	_ func(impl.Step) impl.Step                      = impl.StepTurn
+	_ func(impl.Step, impl.Place) (impl.Place, bool) = impl.StepMap
+	_ func(impl.Doc, []impl.Step) (impl.Doc, bool)   = impl.StepAll
+	_ struct {
+		Block int
+		Cell  int
+		At    int
+	} = impl.Place{}
+	_ struct {
+		Kind  int
+		Place impl.Place
+		Text  []impl.Sign
+		Was   impl.Block
+		Now   impl.Block
+	} = impl.Step{}
+)
