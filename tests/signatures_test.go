@@ -82,3 +82,16 @@ var (
 		Now   impl.Block
 	} = impl.Step{}
 )
+
+// Those of chapter 12.
+var (
+	_ func(impl.Hist) bool                         = impl.HistOk
+	_ func(impl.Hist, impl.Step) (impl.Hist, bool) = impl.HistDo
+	_ func(impl.Hist) (impl.Hist, bool)            = impl.HistUndo
+	_ func(impl.Hist) (impl.Hist, bool)            = impl.HistRedo
+	_ struct {
+		Doc  impl.Doc
+		Done []impl.Step
+		Back []impl.Step
+	} = impl.Hist{}
+)
