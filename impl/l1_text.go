@@ -73,11 +73,7 @@ func TextBy(t []Sign) []int {
 	if !TextOk(t) {
 		return nil
 	}
-	var by people
-	for _, s := range t {
-		by |= person(s.In) | person(s.Out)
-	}
-	return by.list()
+	return namedIn(t).list()
 }
 
 // settle is an ok text of which only the signs stay that keep says, and in which those people have suggested nothing any more.
@@ -103,6 +99,15 @@ func notTakenOut(s Sign, by people) bool {
 // notPutIn keeps what none of these people suggested to put in.
 func notPutIn(s Sign, by people) bool {
 	return !by.has(s.In)
+}
+
+// namedIn is all whose name some sign has.
+func namedIn(t []Sign) people {
+	var by people
+	for _, s := range t {
+		by |= person(s.In) | person(s.Out)
+	}
+	return by
 }
 
 // textBytes is the bytes of all signs.

@@ -95,3 +95,14 @@ var (
 		Back []impl.Step
 	} = impl.Hist{}
 )
+
+// Those of chapter 21.
+var (
+	_ func(impl.Doc, impl.Place, string, int) (impl.Doc, bool) = impl.SugIn
+	_ func(impl.Doc, impl.Place, int, int) (impl.Doc, bool)    = impl.SugOut
+	_ func(impl.Doc, int) impl.Doc                             = impl.SugTake
+	_ func(impl.Doc, int) impl.Doc                             = impl.SugDrop
+	_ func(impl.Doc) impl.Doc                                  = impl.SugNow
+	_ func(impl.Doc) impl.Doc                                  = impl.SugWas
+	_ func(impl.Doc) []int                                     = impl.SugBy
+)
