@@ -106,3 +106,10 @@ var (
 	_ func(impl.Doc) impl.Doc                                  = impl.SugWas
 	_ func(impl.Doc) []int                                     = impl.SugBy
 )
+
+// Those of chapter 22.
+var (
+	_ func(impl.Doc, impl.Place) impl.Place         = impl.SpotNow
+	_ func(impl.Doc, impl.Place) impl.Place         = impl.SpotWas
+	_ func(impl.Doc, impl.Place) (impl.Place, bool) = impl.SpotRaw
+)
