@@ -113,3 +113,9 @@ var (
 	_ func(impl.Doc, impl.Place) impl.Place         = impl.SpotWas
 	_ func(impl.Doc, impl.Place) (impl.Place, bool) = impl.SpotRaw
 )
+
+// That of chapter 31, and its limit.
+var (
+	_ func(string) string = impl.LinesRun
+	_ [3000]struct{}      = [impl.LinesMax]struct{}{}
+)
